@@ -1,0 +1,1 @@
+"""Runledger: what jump counts say about runs."""

@@ -1,0 +1,19 @@
+"""What values of any kind are asked before they are used."""
+
+
+def is_integer(value):
+    """Return whether this is an int and no bool."""
+    return isinstance(value, int) and not isinstance(value, bool)
+
+
+def is_block(value, blocks):
+    """Return whether this is one of so many blocks."""
+    return is_integer(value) and 0 <= value < blocks
+
+
+def is_jump(value, blocks):
+    """Return whether this could be a jump of a routine with so many blocks."""
+    if not isinstance(value, tuple) or len(value) != 2:
+        return False
+    u, v = value
+    return is_block(u, blocks) and is_block(v, blocks) and u < v
