@@ -52,8 +52,8 @@ class RoutineTextTest(unittest.TestCase):
             self.check_bad("blocks 4\n0 " + digit, 2)
 
     def test_form_of_a_jump(self):
-        for row in ["", " ", "0", "0 ", "0  2", " 0 2", "0 2 ", "0 2 3", "0 2 1", "0,2", "0\t2", "(0, 2)", "0 2\r", "a b",
-                    "0 b", "00 2", "0 02", "-0 2", "+0 2", "0 +2", "0 -2", "0x0 2", "0 2_", "0 2.",
+        for row in ["", " ", "0", "0 ", "0  2", " 0 2", "0 2 ", "0 2 3", "0 2 1", "0,2", "0\t2", "(0, 2)", "0 2\r",
+                    "a b", "0 b", "00 2", "0 02", "-0 2", "+0 2", "0 +2", "0 -2", "0x0 2", "0 2_", "0 2.",
                     "blocks 4", "0 2#"]:
             self.check_bad("blocks 4\n" + row, 2)
             self.check_bad("blocks 4\n0 1\n" + row, 3)
