@@ -1,5 +1,8 @@
 """What values of any kind are asked before they are used."""
 
+# The greatest count, and the greatest number of times, that may be named. Sums may be beyond it.
+MOST_TIMES = 10 ** 30
+
 
 def is_integer(value):
     """Return whether this is an int and no bool."""
@@ -17,3 +20,13 @@ def is_jump(value, blocks):
         return False
     u, v = value
     return is_block(u, blocks) and is_block(v, blocks) and u < v
+
+
+def is_count(value):
+    """Return whether this is a count that may be named."""
+    return is_integer(value) and 0 <= value <= MOST_TIMES
+
+
+def is_times(value):
+    """Return whether this is a number of times that may be named."""
+    return is_count(value) and value > 0

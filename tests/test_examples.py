@@ -1,4 +1,4 @@
-"""The examples of the interface: runledger/routines.py and runledger/parts.py (errors.py has none)."""
+"""The examples of the interface, of routines.py to between.py (errors.py has none)."""
 
 import unittest
 
@@ -43,6 +43,81 @@ NOT_IN = """
 [(0, 2, 3, 4, 6), (0, 1, 3, 4, 6), None]
 """
 
+COUNTS = """
+>>> from runledger.counts import Counts
+>>> from runledger.routines import Routine
+>>> web = Routine(4, [(0, 1), (0, 2), (1, 3), (2, 3)])
+>>> counts = Counts(web, [((0, 1), 2), ((1, 3), 2), ((0, 2), 1), ((2, 3), 1)])
+>>> [counts.total, counts.load(1), counts[(0, 2)], (2 * counts).total, counts.pairs]
+[3, 2, 1, 6, [((0, 1), 2), ((0, 2), 1), ((1, 3), 2), ((2, 3), 1)]]
+"""
+
+TALLY = """
+>>> from runledger.counts import Tally
+>>> from runledger.routines import Routine
+>>> tally = Tally(Routine(4, [(0, 1), (0, 2), (1, 3), (2, 3)]))
+>>> [tally.uneven(), tally[(0, 1)], tally.counts().total]
+[[], 0, 0]
+"""
+
+UNEVEN = """
+>>> from runledger.counts import Counts
+>>> from runledger.routines import Routine
+>>> Counts(Routine(4, [(0, 1), (0, 2), (1, 3), (2, 3)]), [((0, 1), 2), ((1, 3), 1)])
+raises Uneven(block=1)
+"""
+
+LEDGER = """
+>>> from runledger.ledgers import Ledger
+>>> from runledger.routines import Routine
+>>> web = Routine(7, [(0, 1), (0, 2), (1, 3), (2, 3), (3, 4), (3, 5), (4, 6), (5, 6)])
+>>> ledger = Ledger(web, [((0, 2, 3, 5, 6), 2), ((0, 1, 3, 4, 6), 3)])
+>>> after = ledger.exchanged((0, 1, 3, 4, 6), (0, 2, 3, 5, 6), 3, times=2)
+>>> [after.entries, after.counts() == ledger.counts()]
+[[((0, 1, 3, 4, 6), 1), ((0, 1, 3, 5, 6), 2), ((0, 2, 3, 4, 6), 2)], True]
+"""
+
+BOUNDS = """
+>>> from runledger.bounds import ceiling_weight, floor_weight, greatest, least
+>>> from runledger.counts import Counts
+>>> from runledger.routines import Routine
+>>> from runledger.parts import Part
+>>> jumps = [(0, 1), (0, 2), (1, 3), (2, 3), (3, 4), (3, 5), (4, 6), (5, 6)]
+>>> routine = Routine(7, jumps)
+>>> counts = Counts(routine, list(zip(jumps, [6, 4, 6, 4, 7, 3, 7, 3])))
+>>> part = Part.through(routine, [1, 4])
+>>> two = [ceiling_weight(counts, part, [0]), floor_weight(counts, part, [0, 1, 3, 4, 6])]
+>>> [greatest(counts, part)[0], least(counts, part)[0]] + two
+[6, 3, 6, 7]
+"""
+
+KNOWN_NUMBERS = """
+>>> from runledger.between import known_numbers
+>>> from runledger.counts import Counts
+>>> from runledger.routines import Routine
+>>> from runledger.ledgers import Ledger
+>>> from runledger.parts import Part
+>>> jumps = [(0, 1), (0, 2), (1, 3), (2, 3), (3, 4), (3, 5), (4, 6), (5, 6)]
+>>> routine = Routine(7, jumps)
+>>> counts = Counts(routine, list(zip(jumps, [6, 4, 6, 4, 7, 3, 7, 3])))
+>>> part = Part.through(routine, [1, 4])
+>>> known_numbers(counts, Ledger(routine, [((0, 2, 3, 5, 6), 1)]), part)
+(4, 6)
+"""
+
+LEDGER_WITH = """
+>>> from runledger.between import ledger_with
+>>> from runledger.counts import Counts
+>>> from runledger.routines import Routine
+>>> from runledger.parts import Part
+>>> jumps = [(0, 1), (0, 2), (1, 3), (2, 3), (3, 4), (3, 5), (4, 6), (5, 6)]
+>>> routine = Routine(7, jumps)
+>>> counts = Counts(routine, list(zip(jumps, [6, 4, 6, 4, 7, 3, 7, 3])))
+>>> part = Part.through(routine, [1, 4])
+>>> ledger_with(counts, part, 2)
+raises NotPossible(least=3, greatest=6)
+"""
+
 
 class ExamplesTest(unittest.TestCase):
     def test_routine(self):
@@ -59,6 +134,27 @@ class ExamplesTest(unittest.TestCase):
 
     def test_not_in(self):
         check_example(self, NOT_IN)
+
+    def test_counts(self):
+        check_example(self, COUNTS)
+
+    def test_tally(self):
+        check_example(self, TALLY)
+
+    def test_uneven_counts(self):
+        check_example(self, UNEVEN)
+
+    def test_ledger(self):
+        check_example(self, LEDGER)
+
+    def test_bounds(self):
+        check_example(self, BOUNDS)
+
+    def test_known_numbers(self):
+        check_example(self, KNOWN_NUMBERS)
+
+    def test_ledger_with(self):
+        check_example(self, LEDGER_WITH)
 
     def test_the_check_itself_fails_on_another_outcome(self):
         for text in [ROUTINE.replace("False, False]", "False, True]"), ROUTINE_TEXT.replace("line=3", "line=2")]:

@@ -11,16 +11,6 @@ from runledger.routines import Routine
 from tests import webs
 
 
-def full_web():
-    """Four blocks, all jumps: each run there can be."""
-    return Routine(4, webs.all_pairs(4))
-
-
-def web_with_dead_ends():
-    """Block 3 is reached by no run, block 4 reaches the last block on no run."""
-    return Routine(6, [(0, 1), (0, 2), (0, 4), (1, 2), (1, 5), (2, 5), (3, 5), (3, 4)])
-
-
 def all_parts(web):
     return [Part(web, jumps) for jumps in webs.subsets(web.jumps)]
 
@@ -54,7 +44,7 @@ class MakingTest(unittest.TestCase):
                 self.assertIs(value in part, False)
 
     def test_keeps_to_it(self):
-        for web in [full_web(), web_with_dead_ends()]:
+        for web in [webs.full_web(4), webs.web_with_dead_ends()]:
             for part in all_parts(web):
                 kept = slow_kept(part)
                 for run in web.all_runs():
@@ -91,7 +81,7 @@ class MakingTest(unittest.TestCase):
 
 class RunsOfPartsTest(unittest.TestCase):
     def test_all_parts_of_small_routines(self):
-        for web in [full_web(), web_with_dead_ends(), Routine(2, [(0, 1)]), Routine(2, []), Routine(3, [(0, 1)])]:
+        for web in [webs.full_web(4), webs.web_with_dead_ends(), *webs.bare_webs()]:
             for part in all_parts(web):
                 kept = slow_kept(part)
                 made = {jump for run in kept for jump in webs.pairs_of(run)}
@@ -103,7 +93,7 @@ class RunsOfPartsTest(unittest.TestCase):
                 self.assertEqual(slow_kept(part.reduced()), kept)
 
     def test_kept_run_by(self):
-        for web in [full_web(), web_with_dead_ends()]:
+        for web in [webs.full_web(4), webs.web_with_dead_ends()]:
             for part in all_parts(web):
                 kept = slow_kept(part)
                 for jump in web.jumps:
@@ -119,7 +109,7 @@ class RunsOfPartsTest(unittest.TestCase):
             self.assertIs(caught.exception.jump, value)
 
     def test_a_jump_on_no_run(self):
-        web = web_with_dead_ends()
+        web = webs.web_with_dead_ends()
         part = Part(web, [(3, 4), (0, 4)])
         self.assertEqual((part.jumps, part.how_many(), bool(part)), ([(0, 4), (3, 4)], 0, False))
         self.assertIsNone(Part(web, web.jumps).kept_run_by((3, 5)))
@@ -160,7 +150,7 @@ class RunsOfPartsTest(unittest.TestCase):
 class TwoPartsTest(unittest.TestCase):
     def setUp(self):
         self.pairs = []
-        for web in [full_web(), web_with_dead_ends()]:
+        for web in [webs.full_web(4), webs.web_with_dead_ends()]:
             known = [(part, slow_kept(part)) for part in all_parts(web)]
             self.pairs.extend((one, other) for one in known for other in known[::3])
 
@@ -190,7 +180,7 @@ class TwoPartsTest(unittest.TestCase):
         self.assertEqual((one.jumps, other.jumps), ([(0, 1), (1, 3)], [(0, 2), (1, 3)]))
 
     def test_equal_by_runs_not_by_jumps(self):
-        web = web_with_dead_ends()
+        web = webs.web_with_dead_ends()
         self.assertTrue(Part(web, [(0, 1), (1, 5)]) == Part(web, [(0, 1), (1, 5), (0, 4), (3, 5)]))
         self.assertTrue(Part(web, []) == Part(web, [(0, 1), (2, 5)]))
         self.assertTrue(Part(web, [(0, 1), (2, 5)]) <= Part(web, []))
@@ -229,7 +219,7 @@ class ThroughTest(unittest.TestCase):
         self.assertEqual(part.routine, web)
 
     def test_one_item_and_one_barred(self):
-        for web in [full_web(), web_with_dead_ends(), webs.double(), Routine(5, webs.all_pairs(5))]:
+        for web in [webs.full_web(4), webs.web_with_dead_ends(), webs.double(), webs.full_web(5)]:
             items = [*range(web.blocks), *web.jumps]
             self.check_through(web, [], [])
             for item in items:

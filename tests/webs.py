@@ -4,9 +4,12 @@ import signal
 from contextlib import contextmanager
 from itertools import combinations
 
+from runledger.counts import Counts, Tally
+from runledger.ledgers import Ledger
 from runledger.parts import Part
 from runledger.routines import Routine
 
+BIG = 10 ** 30
 DIAMOND_JUMPS = [(0, 1), (0, 2), (1, 3), (2, 3)]
 DOUBLE_JUMPS = [(0, 1), (0, 2), (1, 3), (2, 3), (3, 4), (3, 5), (4, 6), (5, 6)]
 
@@ -26,12 +29,33 @@ def within(seconds):
         signal.signal(signal.SIGALRM, before)
 
 
+def full_web(blocks):
+    """All jumps there can be."""
+    return Routine(blocks, all_pairs(blocks))
+
+
+def web_with_dead_ends():
+    """Block 3 is reached by no run, block 4 reaches the last block on no run."""
+    return Routine(6, [(0, 1), (0, 2), (0, 4), (1, 2), (1, 5), (2, 5), (3, 5), (3, 4)])
+
+
+def bare_webs():
+    """Routines of one run or of none."""
+    return [Routine(2, [(0, 1)]), Routine(2, []), Routine(3, [(0, 1)]), Routine(5, [])]
+
+
 def diamond():
     return Routine(4, list(DIAMOND_JUMPS))
 
 
 def double():
     return Routine(7, list(DOUBLE_JUMPS))
+
+
+def chain():
+    """Three choices, one behind the other."""
+    jumps = [(u + 3 * k, v + 3 * k) for k in range(3) for u, v in DIAMOND_JUMPS]
+    return Routine(10, jumps)
 
 
 def ladder():
@@ -43,6 +67,34 @@ def ladder_to_nowhere():
     """One run, beside billions of ways from the first block that never come to the last one."""
     jumps = [(u, v) for u in range(38) for v in range(u + 1, min(u + 4, 38))]
     return Routine(40, [*jumps, (0, 39), (38, 39)])
+
+
+def wide_ladder():
+    """A routine of 40 blocks and 120 jumps, of unlike lengths, with very many runs."""
+    steps = [1, 2, 5, 17]
+    jumps = [(u, u + step) for step in steps for u in range(40 - step)]
+    return Routine(40, jumps[:120])
+
+
+def big_counts(web):
+    """Counts near 10 ** 30 or beyond it, of runs that use the jumps of the routine unlike often."""
+    runs = []
+    for at in range(60):
+        run = [0]
+        while run[-1] != web.blocks - 1:
+            outs = web.outs(run[-1])
+            run.append(outs[(at * len(run) + at // 7) % len(outs)][1])
+        runs.append((tuple(run), BIG - at ** 9))
+    return Ledger(web, runs).counts()
+
+
+def many_parts(web):
+    """Parts of unlike kinds, also of jumps on no run that keeps to them."""
+    barred = [[jump for at, jump in enumerate(web.jumps) if at * at % step == 1] for step in (5, 7, 16, 23)]
+    parts = [Part(web, [jump for jump in web.jumps if jump not in jumps]) for jumps in barred]
+    parts.extend(Part.through(web, items) for items in [[7, 20, 33], [(7, 8), 21], [(3, 5), (30, 32)]])
+    parts.extend([Part(web, []), Part(web, web.jumps), Part(web, web.jumps[:60]), Part(web, web.jumps[30:])])
+    return parts
 
 
 def ladder_runs():
@@ -91,6 +143,8 @@ def odd_values():
     """Values of many kinds. None is a number of blocks, a block, a jump, a run or a text of a routine."""
     web = diamond()
     part = Part(web, [(0, 1)])
+    ledger = Ledger(web, [((0, 1, 3), 2)])
+    counts, tally = Counts(web, ledger.counts().pairs), Tally(web)
     return [
         None, True, False, "", "a", "0", "1", "blocks", "0 1", -1, 41, 120, 10 ** 39, -10 ** 39,
         (), (0,), (1,), (0, True), (False, 1), (True, 3), (0, "1"), ("0", "1"), (0, None), (None, None),
@@ -100,4 +154,5 @@ def odd_values():
         [], [0], [0, 1], [(0, 1)], [0, 1, 3], [[0, 1]], [[0, 1], [1, 3]], ["blocks 2"],
         deep(0, 29, tuple), deep(0, 29, list), deep((0, 1), 29, list), (0, deep(1, 28, tuple)), (deep(0, 28, list), 1),
         web, part, web.jumps, [web], (web, part), (0, part), list(web.all_runs()), (part,),
+        counts, tally, ledger, counts.pairs, ledger.entries, (counts, 1), (0, ledger), [ledger, tally],
     ]
