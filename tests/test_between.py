@@ -58,6 +58,16 @@ class LedgerWithTest(unittest.TestCase):
                 self.check_all(counts, Part.through(web, items))
                 self.check_all(counts, Part.through(web, [], barred=items))
 
+    def test_a_short_way_in_the_way_of_two_longer_ones(self):
+        for barred in [[(1, 2), (5, 8)], [(0, 1), (5, 9), (7, 9)], [(0, 1), (5, 8)], [(0, 3), (2, 6)]]:
+            counts = webs.crossing([2, 1, 3])
+            self.check_all(counts, webs.without(counts.routine, barred))
+            counts = webs.crossing([BIG, 3, 10 ** 17, BIG - 1])
+            part = webs.without(counts.routine, barred)
+            low, high = least(counts, part)[0], greatest(counts, part)[0]
+            for number in [low, high, (low + high) // 2, low + (high - low) // 3]:
+                self.check(counts, part, number)
+
     def test_total_0(self):
         for web in [webs.diamond(), webs.web_with_dead_ends(), *webs.bare_webs()]:
             for jumps in [[], web.jumps]:

@@ -160,11 +160,20 @@ class GreatestAndLeastTest(unittest.TestCase):
             low, high = self.check(counts, Part.through(web, [1, 5]))
             self.assertEqual((low, high), (often - half, often))
 
+    def test_a_short_way_in_the_way_of_two_longer_ones(self):
+        for times in [[1], [2, 1], [BIG, 3, 10 ** 17, BIG - 1]]:
+            counts, total = webs.crossing(times), sum(times)
+            web = counts.routine
+            self.assertEqual(self.check(counts, webs.without(web, [(1, 2), (5, 8)])), (total, 2 * total))
+            self.assertEqual(self.check(counts, webs.without(web, [(0, 1), (5, 9), (7, 9)])), (0, total))
+            self.assertEqual(self.check(9 * counts, webs.without(web, [(0, 1), (5, 8)])), (9 * total, 18 * total))
+
     def test_other_routine(self):
         counts = Counts(webs.diamond(), [])
         for web in [Routine(4, webs.DIAMOND_JUMPS[1:]), Routine(5, webs.DIAMOND_JUMPS), webs.double()]:
-            self.assertRaises(OtherRoutine, greatest, counts, Part(web, []))
-            self.assertRaises(OtherRoutine, least, counts, Part(web, []))
+            for jumps in [[], web.jumps]:
+                self.assertRaises(OtherRoutine, greatest, counts, Part(web, jumps))
+                self.assertRaises(OtherRoutine, least, counts, Part(web, jumps))
 
     def test_billions_of_runs(self):
         with webs.within(20):

@@ -60,6 +60,15 @@ class MainFactTest(unittest.TestCase):
         parts.extend([Part.through(web, [], barred=items) for items in [[1, 4, 7], [1, 8], [(0, 2), (4, 6)], [5]]])
         self.check_routine(web, 3, parts)
 
+    def test_a_short_way_in_the_way_of_two_longer_ones(self):
+        for counts in [webs.crossing([1]), webs.crossing([2])]:
+            web = counts.routine
+            fitting = [sorted(entries) for entries in search.fitting(counts)]
+            parts = [Part(web, jumps) for jumps in list(webs.subsets(web.jumps))[::61]]
+            parts.extend(webs.without(web, barred) for barred in [[(1, 2), (5, 8)], [(0, 1), (5, 9), (7, 9)]])
+            for part in parts:
+                self.check(counts, fitting, part)
+
     def test_parts_with_blocks_on_no_run(self):
         web = webs.web_with_dead_ends()
         self.check_routine(web, 3, [Part(web, jumps) for jumps in list(webs.subsets(web.jumps))[::3]])

@@ -58,6 +58,29 @@ def chain():
     return Routine(10, jumps)
 
 
+# Made once each: a short way by 2 and 5 is in the way of two longer ones, by 2, 6, 7 and by 3, 4, 5.
+CROSSING_JUMPS = [(0, 1), (0, 2), (0, 3), (1, 2), (2, 5), (2, 6), (3, 4), (4, 5), (5, 8), (5, 9), (6, 7), (7, 9),
+                  (8, 9)]
+
+
+def crossing(times):
+    """A crossing for each of the times, side by side, and counts that make all of its jumps so often."""
+    last = 8 * len(times) + 1
+    pairs = []
+    for at, often in enumerate(times):
+        blocks = [0, *range(8 * at + 1, 8 * at + 9), last]
+        pairs.extend(((blocks[u], blocks[v]), often) for u, v in CROSSING_JUMPS)
+    return Counts(Routine(last + 1, [jump for jump, _ in pairs]), pairs)
+
+
+def without(routine, barred):
+    """The part of all jumps of crossings but these, which are told as those of the first one."""
+    def names(jump):
+        return tuple(9 if block == routine.blocks - 1 else block and (block - 1) % 8 + 1 for block in jump)
+
+    return Part(routine, [jump for jump in routine.jumps if names(jump) not in barred])
+
+
 def ladder():
     """The routine of 40 blocks with a jump from each to the next three: billions of runs."""
     return Routine(40, [(u, v) for u in range(40) for v in range(u + 1, min(u + 4, 40))])
