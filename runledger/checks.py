@@ -14,6 +14,11 @@ def is_block(value, blocks):
     return is_integer(value) and 0 <= value < blocks
 
 
+def is_inner(value, blocks):
+    """Return whether this is one of so many blocks, and neither the first nor the last one."""
+    return is_block(value, blocks) and value != 0 and value != blocks - 1
+
+
 def is_jump(value, blocks):
     """Return whether this could be a jump of a routine with so many blocks."""
     if not isinstance(value, tuple) or len(value) != 2:

@@ -4,7 +4,7 @@ from runledger.checks import is_block, is_integer, is_times
 from runledger.counts import summed_counts
 from runledger.errors import BadEntry, NoRun, NotEnough, NotPassed, OtherRoutine
 from runledger.flows import ways_onward
-from runledger.walks import jumps_of
+from runledger.walks import cut_at, jumps_of
 
 
 def is_entry(value, routine):
@@ -100,9 +100,9 @@ class Ledger:
         for run in (first, second):
             if self[run] < times:
                 raise NotEnough(run)
-        at, place = first.index(block), second.index(block)
+        (one, rest), (other, tail) = cut_at(first, block), cut_at(second, block)
         taken = [(first, -times), (second, -times)]
-        put = [(first[:at] + second[place:], times), (second[:place] + first[at:], times)]
+        put = [(one + tail, times), (other + rest, times)]
         return summed_ledger(self.routine, [*self.entries, *taken, *put])
 
 

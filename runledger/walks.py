@@ -11,6 +11,12 @@ def jumps_of(run):
     return list(zip(run, run[1:]))
 
 
+def cut_at(run, block):
+    """Return the beginning of the run before the block, and its rest from the block on."""
+    at = run.index(block)
+    return (run[:at], run[at:])
+
+
 def jumps_on_runs(blocks, jumps):
     """Return those of the jumps that lie on a run that makes no others."""
     begun = [block == 0 for block in range(blocks)]

@@ -1,4 +1,4 @@
-"""The examples of the interface, of routines.py to between.py (errors.py has none)."""
+"""The examples of the interface, of routines.py to shares.py (errors.py has none)."""
 
 import unittest
 
@@ -118,6 +118,52 @@ LEDGER_WITH = """
 raises NotPossible(least=3, greatest=6)
 """
 
+RUN_TIMES = """
+>>> from runledger.sure import run_times, sure_runs
+>>> from runledger.counts import Counts
+>>> from runledger.routines import Routine
+>>> jumps = [(0, 1), (0, 2), (1, 3), (2, 3), (3, 4), (3, 5), (4, 6), (5, 6)]
+>>> routine = Routine(7, jumps)
+>>> counts = Counts(routine, list(zip(jumps, [6, 4, 6, 4, 7, 3, 7, 3])))
+>>> [run_times(counts, (0, 1, 3, 5, 6)), sure_runs(counts)]
+[(0, 3), [((0, 1, 3, 4, 6), 3), ((0, 2, 3, 4, 6), 1)]]
+"""
+
+ONLY_LEDGER = """
+>>> from runledger.sure import only_ledger, whoever
+>>> from runledger.counts import Counts
+>>> from runledger.routines import Routine
+>>> jumps = [(0, 1), (0, 2), (1, 3), (2, 3), (3, 4), (3, 5), (4, 6), (5, 6)]
+>>> routine = Routine(7, jumps)
+>>> counts = Counts(routine, list(zip(jumps, [6, 4, 6, 4, 7, 3, 7, 3])))
+>>> [whoever(counts, 1, 4)[0], whoever(counts, 4, 3)[0], whoever(counts, 1, 2)[0], only_ledger(counts)[0]]
+['open', 'all', 'none', 'more']
+"""
+
+WAY = """
+>>> from runledger.ledgers import Ledger
+>>> from runledger.routines import Routine
+>>> from runledger.ways import is_recoupled, way
+>>> jumps = [(0, 1), (0, 2), (1, 3), (2, 3), (3, 4), (3, 5), (4, 6), (5, 6)]
+>>> routine = Routine(7, jumps)
+>>> first = Ledger(routine, [((0, 1, 3, 4, 6), 6), ((0, 2, 3, 4, 6), 1), ((0, 2, 3, 5, 6), 3)])
+>>> second = Ledger(routine, [((0, 1, 3, 4, 6), 3), ((0, 1, 3, 5, 6), 3), ((0, 2, 3, 4, 6), 4)])
+>>> [is_recoupled(first, second, 3), is_recoupled(first, second, 1), len(way(first, second))]
+[True, False, 6]
+"""
+
+SHARE = """
+>>> from runledger.shares import share
+>>> from runledger.counts import Counts
+>>> from runledger.routines import Routine
+>>> from runledger.parts import Part
+>>> jumps = [(0, 1), (0, 2), (1, 3), (2, 3), (3, 4), (3, 5), (4, 6), (5, 6)]
+>>> routine = Routine(7, jumps)
+>>> counts = Counts(routine, list(zip(jumps, [6, 4, 6, 4, 7, 3, 7, 3])))
+>>> share(counts, Part.through(routine, [1, 4]))
+(21, 5)
+"""
+
 
 class ExamplesTest(unittest.TestCase):
     def test_routine(self):
@@ -155,6 +201,18 @@ class ExamplesTest(unittest.TestCase):
 
     def test_ledger_with(self):
         check_example(self, LEDGER_WITH)
+
+    def test_run_times(self):
+        check_example(self, RUN_TIMES)
+
+    def test_only_ledger(self):
+        check_example(self, ONLY_LEDGER)
+
+    def test_way(self):
+        check_example(self, WAY)
+
+    def test_share(self):
+        check_example(self, SHARE)
 
     def test_the_check_itself_fails_on_another_outcome(self):
         for text in [ROUTINE.replace("False, False]", "False, True]"), ROUTINE_TEXT.replace("line=3", "line=2")]:
