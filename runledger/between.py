@@ -31,14 +31,26 @@ def ledger_with(counts, part, number):
     return summed_ledger(counts.routine, ways_onward(begun, rest, {}))
 
 
-def known_numbers(counts, seen, part):
-    """Return the least and the greatest number of the part in the ledgers that fit and have the seen runs."""
-    if counts.routine != seen.routine or counts.routine != part.routine:
-        raise OtherRoutine()
+def unseen_counts(counts, seen):
+    """Return the Counts that are left when the seen ledger is taken out."""
     made = seen.counts()
     for jump in counts.routine.jumps:
         if made[jump] > counts[jump]:
             raise NotSeen(jump)
-    unseen = summed_counts(counts.routine, {jump: counts[jump] - made[jump] for jump in counts.routine.jumps})
-    kept = seen.kept(part)
+    return summed_counts(counts.routine, {jump: counts[jump] - made[jump] for jump in counts.routine.jumps})
+
+
+def known_numbers(counts, seen, part):
+    """Return the least and the greatest number of the part in the ledgers that fit and have the seen runs."""
+    if counts.routine != seen.routine or counts.routine != part.routine:
+        raise OtherRoutine()
+    unseen, kept = unseen_counts(counts, seen), seen.kept(part)
     return (kept + least(unseen, part)[0], kept + greatest(unseen, part)[0])
+
+
+def ledger_with_seen(counts, seen, part, number):
+    """Return a Ledger that fits the counts, has the seen runs, and in which the part has the number."""
+    lowest, highest = known_numbers(counts, seen, part)
+    if number < lowest or number > highest:
+        raise NotPossible(lowest, highest)
+    return seen + ledger_with(unseen_counts(counts, seen), part, number - seen.kept(part))

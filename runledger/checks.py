@@ -1,5 +1,8 @@
-"""What values of any kind are asked before they are used."""
+"""What values of any kind are asked before they are used, and the bounds that they are held to."""
 
+LEAST_BLOCKS = 2
+MOST_BLOCKS = 40
+MOST_JUMPS = 120
 # The greatest count, and the greatest number of times, that may be named. Sums may be beyond it.
 MOST_TIMES = 10 ** 30
 
@@ -7,6 +10,11 @@ MOST_TIMES = 10 ** 30
 def is_integer(value):
     """Return whether this is an int and no bool."""
     return isinstance(value, int) and not isinstance(value, bool)
+
+
+def can_have_blocks(blocks):
+    """Return whether a routine can have this number of blocks."""
+    return is_integer(blocks) and LEAST_BLOCKS <= blocks <= MOST_BLOCKS
 
 
 def is_block(value, blocks):

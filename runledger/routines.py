@@ -1,18 +1,9 @@
 """Routines: webs of blocks and jumps without loops."""
 
-from runledger.checks import is_block, is_integer, is_jump
-from runledger.errors import BadBlocks, BadJump, BadText, NoBlock, TooLarge
-from runledger.lines import number_behind, numbers_of
+from runledger.checks import MOST_JUMPS, can_have_blocks, is_block, is_jump
+from runledger.errors import BadBlocks, BadJump, NoBlock, TooLarge
+from runledger.lines import rows_of
 from runledger.walks import jumps_of, number_of_runs, runs_along
-
-LEAST_BLOCKS = 2
-MOST_BLOCKS = 40
-MOST_JUMPS = 120
-
-
-def can_have_blocks(blocks):
-    """Return whether a routine can have this number of blocks."""
-    return is_integer(blocks) and LEAST_BLOCKS <= blocks <= MOST_BLOCKS
 
 
 class Routine:
@@ -52,21 +43,8 @@ class Routine:
     @staticmethod
     def parse(text):
         """Return the routine of which this is the text."""
-        if not isinstance(text, str):
-            raise BadText(1)
-        lines = text.split("\n")
-        blocks = number_behind(lines[0], "blocks")
-        if not can_have_blocks(blocks):
-            raise BadText(1)
-        jumps = []
-        last = (0, 0)
-        for at, line in enumerate(lines[1:], start=2):
-            jump = tuple(numbers_of(line))
-            if not is_jump(jump, blocks) or jump <= last or len(jumps) == MOST_JUMPS:
-                raise BadText(at)
-            jumps.append(jump)
-            last = jump
-        return Routine(blocks, jumps)
+        blocks, rows = rows_of(text, 2)
+        return Routine(blocks, [(u, v) for u, v in rows])
 
     def ins(self, block):
         """Return the ascending list of the jumps to the block."""

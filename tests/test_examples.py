@@ -1,4 +1,4 @@
-"""The examples of the interface, of routines.py to shares.py (errors.py has none)."""
+"""The examples of the interface, of all files (errors.py has none)."""
 
 import unittest
 
@@ -164,6 +164,73 @@ SHARE = """
 (21, 5)
 """
 
+COVER = """
+>>> from runledger.covers import Cover
+>>> from runledger.routines import Routine
+>>> web = Routine(7, [(0, 1), (0, 2), (1, 3), (2, 3), (3, 4), (3, 5), (4, 6), (5, 6)])
+>>> cover = Cover.plain(web).copied(3, [(1, 3)])
+>>> [cover.names, cover.lift((0, 1, 3, 4, 6)), cover.name((0, 2, 3, 6, 7)), Cover.watching(web, [3]).names]
+[[0, 1, 2, 3, 3, 4, 5, 6], (0, 1, 4, 5, 7), (0, 2, 3, 5, 6), [0, 1, 2, 3, 3, 4, 5, 6]]
+"""
+
+NEW_NUMBERS = """
+>>> from runledger.counts import Counts
+>>> from runledger.covers import new_numbers
+>>> from runledger.routines import Routine
+>>> web = Routine(7, [(0, 1), (0, 2), (1, 3), (2, 3), (3, 4), (3, 5), (4, 6), (5, 6)])
+>>> counts = Counts(web, list(zip(web.jumps, [6, 4, 6, 4, 7, 3, 7, 3])))
+>>> new_numbers(counts, 3, [(1, 3)])[4:8]
+[((3, 5), 1, 4), ((3, 6), 0, 3), ((4, 5), 3, 6), ((4, 6), 0, 3)]
+"""
+
+PROGRAM = """
+>>> from runledger.programs import Program
+>>> code = [((('c', 'a', '-', 'b'),), ('if', 'c', '<', 0, 1, 2)), ((('c', 0, '-', 'c'),), ('go', 2)), ((), ('stop',))]
+>>> program = Program(code)
+>>> [program.routine.jumps, program.execute({'a': 3, 'b': 8}), program.execute({'a': 8, 'b': 3})]
+[[(0, 1), (0, 2), (1, 2)], ((0, 1, 2), [('a', 3), ('b', 8), ('c', 5)]), ((0, 2), [('a', 8), ('b', 3), ('c', 5)])]
+"""
+
+BAD_PROGRAM = """
+>>> from runledger.programs import Program
+>>> Program([((), ('go', 1)), ((), ('go', 2))])
+raises BadProgram(at=1)
+"""
+
+RECORDER = """
+>>> from runledger.parts import Part
+>>> from runledger.recorder import Recorder
+>>> from runledger.routines import Routine
+>>> web = Routine(7, [(0, 1), (0, 2), (1, 3), (2, 3), (3, 4), (3, 5), (4, 6), (5, 6)])
+>>> plain, keen, part = Recorder(web), Recorder(web, watched=[3]), Part.through(web, [1, 4])
+>>> one = [plain.enter((0, 1, 3, 4, 6), times=6), plain.enter((0, 2, 3, 5, 6), times=3), plain.enter((0, 2, 3, 4, 6))]
+>>> two = [keen.enter((0, 1, 3, 4, 6), times=6), keen.enter((0, 2, 3, 5, 6), times=3), keen.enter((0, 2, 3, 4, 6))]
+>>> [plain.known(part), keen.known(part), keen.fine_counts()[(4, 5)], plain.example(part, 4).kept(part)]
+[(3, 6), (6, 6), 1, 4]
+"""
+
+RECORDER_PIECES = """
+>>> from runledger.parts import Part
+>>> from runledger.recorder import Recorder
+>>> from runledger.routines import Routine
+>>> web = Routine(7, [(0, 1), (0, 2), (1, 3), (2, 3), (3, 4), (3, 5), (4, 6), (5, 6)])
+>>> recorder, part = Recorder(web), Part.through(web, [1, 4])
+>>> one = [recorder.enter((0, 1, 3, 4, 6), times=3), recorder.enter((0, 1, 3, 5, 6), times=3), recorder.cut()]
+>>> two = [recorder.enter((0, 2, 3, 4, 6), times=4)]
+>>> [recorder.known(part), recorder.known_by_pieces(part), len(recorder.pieces())]
+[(3, 6), (3, 3), 2]
+"""
+
+TEXTS = r"""
+>>> from runledger.ledgers import Ledger
+>>> from runledger.routines import Routine
+>>> from runledger.texts import read_ledger, show, show_ledger
+>>> web = Routine(4, [(0, 1), (0, 2), (1, 3), (2, 3)])
+>>> ledger = Ledger(web, [((0, 1, 3), 2), ((0, 2, 3), 1)])
+>>> [show(ledger.counts()), show_ledger(ledger), read_ledger(web, '2 0 1 3\n1 0 2 3') == ledger]
+['blocks 4\n0 1 2\n0 2 1\n1 3 2\n2 3 1', '2 0 1 3\n1 0 2 3', True]
+"""
+
 
 class ExamplesTest(unittest.TestCase):
     def test_routine(self):
@@ -213,6 +280,27 @@ class ExamplesTest(unittest.TestCase):
 
     def test_share(self):
         check_example(self, SHARE)
+
+    def test_cover(self):
+        check_example(self, COVER)
+
+    def test_new_numbers(self):
+        check_example(self, NEW_NUMBERS)
+
+    def test_program(self):
+        check_example(self, PROGRAM)
+
+    def test_bad_program(self):
+        check_example(self, BAD_PROGRAM)
+
+    def test_recorder(self):
+        check_example(self, RECORDER)
+
+    def test_recorder_pieces(self):
+        check_example(self, RECORDER_PIECES)
+
+    def test_texts(self):
+        check_example(self, TEXTS)
 
     def test_the_check_itself_fails_on_another_outcome(self):
         for text in [ROUTINE.replace("False, False]", "False, True]"), ROUTINE_TEXT.replace("line=3", "line=2")]:
