@@ -119,10 +119,10 @@ class Cover:
             if not is_inner(block, routine.blocks):
                 raise NotInner(block)
         places = watched_places(routine, blocks)
-        at = {place: fine for fine, place in enumerate(places)}
+        heads = {place: head for head, place in enumerate(places)}
         jumps = []
-        for fine, (name, _) in enumerate(places):
-            jumps.extend([(fine, at[(v, u if v in blocks else -1)]) for u, v in routine.outs(name)])
+        for tail, (name, _) in enumerate(places):
+            jumps.extend([(tail, heads[(v, u if v in blocks else -1)]) for u, v in routine.outs(name)])
         return cover_within_bounds(routine, [name for name, _ in places], jumps)
 
     def lift(self, run):

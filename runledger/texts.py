@@ -28,11 +28,11 @@ def read(text):
 
 def read_ledger(routine, text):
     """Return the Ledger of the routine of which this is the text."""
-    lines = lines_of(text)
+    # The empty string is the text of no entries, and so has no lines.
+    lines = [] if text == "" else lines_of(text)
     entries = []
     last = ()
-    # The empty string is the text of no entries, so that it has no lines either.
-    for at, line in enumerate(lines if text != "" else [], start=1):
+    for at, line in enumerate(lines, start=1):
         numbers = numbers_of(line)
         run = tuple(numbers[1:])
         entry = (run, *numbers[:1])

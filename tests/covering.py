@@ -1,5 +1,7 @@
 """Covers worked out slowly, by the words of points 23 to 25."""
 
+from functools import lru_cache
+
 from runledger.covers import Cover
 from tests import webs
 
@@ -27,6 +29,11 @@ def slow_is_cover(base, names, jumps):
 
 def slow_lift(names, jumps, run):
     """The fine run with these names: there must be just one."""
+    return lifted_run(tuple(names), tuple(jumps), run)
+
+
+@lru_cache(maxsize=None)
+def lifted_run(names, jumps, run):
     fine = [(0,)]
     for block in run[1:]:
         fine = [(*begun, v) for begun in fine for u, v in jumps if u == begun[-1] and names[v] == block]

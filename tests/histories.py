@@ -1,5 +1,6 @@
 """Histories of recorders, kept by hand, and what can be known of them, found slowly."""
 
+from functools import lru_cache
 from itertools import combinations_with_replacement
 from random import Random
 
@@ -29,17 +30,25 @@ def fine_counts_of(entries, watched):
     return counted
 
 
+@lru_cache(maxsize=None)
+def ledgers_by_fine_counts(blocks, jumps, watched, total):
+    """All entries with so many runs, those with the same fine counts together."""
+    runs = webs.slow_runs(blocks, jumps)
+    found = {}
+    for chosen in combinations_with_replacement(runs, total):
+        entries = [(run, chosen.count(run)) for run in runs if run in chosen]
+        fine = frozenset(fine_counts_of(entries, watched).items())
+        found.setdefault(fine, []).append(entries)
+    return found
+
+
 def possible_ledgers(web, watched, deeds):
     """All entries with the same fine counts as the deeds, and with what was noted."""
     entries, noted = entries_of(deeds)
-    fine, total = fine_counts_of(entries, watched), sum(times for _, times in entries)
-    runs = webs.slow_runs(web.blocks, web.jumps)
-    found = []
-    for chosen in combinations_with_replacement(runs, total):
-        tried = [(run, chosen.count(run)) for run in runs if run in chosen]
-        if search.contains(tried, noted) and fine_counts_of(tried, watched) == fine:
-            found.append(tried)
-    return found
+    total = sum(times for _, times in entries)
+    fine = frozenset(fine_counts_of(entries, watched).items())
+    found = ledgers_by_fine_counts(web.blocks, tuple(web.jumps), tuple(watched), total)[fine]
+    return [tried for tried in found if search.contains(tried, noted)]
 
 
 def kept_in(cover, entries, part):
@@ -82,7 +91,7 @@ def some_history(web, watched, seed, steps, most):
     runs = list(web.all_runs())
     recorder, model = Recorder(web, watched=watched), Model(web, watched)
     for _ in range(steps):
-        deed = chance.choice(["enter", "enter", "note", "cut", "mark", "back", "fork", "add"])
+        deed = chance.choice([*["enter"] * 5, "note", "cut", "cut", "mark", "back", "fork", "add"])
         left = most - sum(times for _, times, _ in model.deeds())
         if deed in ("enter", "note") and left > 0:
             run, times = chance.choice(runs), chance.randint(1, min(2, left))
@@ -100,6 +109,6 @@ def some_history(web, watched, seed, steps, most):
             model.back_to(number)
         elif deed == "fork":
             recorder, model = recorder.fork(), model.copied()
-        elif deed == "add" and 2 * (most - left) <= most and len(model.pieces) < 3:
+        elif deed == "add" and most - left <= left and len(model.pieces) < 3:
             recorder, model = recorder + recorder, model.added(model)
         yield recorder, model

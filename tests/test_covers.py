@@ -119,6 +119,10 @@ class MakingTest(unittest.TestCase):
                 equal = any(at in row and place in row for row in same)
                 self.assertIs(one == other, equal)
                 self.assertIs(one != other, not equal)
+        # The bases differ in a jump from a block that is not there.
+        fine = [[0, 2, 3], [(0, 1), (1, 2)]]
+        one, other = [Cover(Routine(4, [(0, 2), *more, (2, 3)]), *fine) for more in [[], [(1, 3)]]]
+        self.assertIs(one == other, False)
         for value in [*webs.odd_values(), webs.diamond(), NAMES]:
             self.assertIs(known[0] == value, False)
             self.assertIs(known[0] != value, True)

@@ -1,7 +1,7 @@
 """Points 2 and 31 to 33: at every moment of many histories, what a recorder tells against a slow search."""
 
 import unittest
-from itertools import product
+from itertools import combinations, product
 
 from runledger.errors import NotPossible
 from runledger.ledgers import Ledger
@@ -68,28 +68,59 @@ class HistoriesTest(unittest.TestCase):
                 recorder.example_by_pieces(part, number)
             self.assertEqual((caught.exception.least, caught.exception.greatest), (low, high))
 
+    def some_parts(self, web, fine):
+        """Parts of both routines: the runs that pass two blocks, those that pass just one of them, and others."""
+        pairs = list(combinations(range(1, web.blocks - 1), 2))
+        parts = [Part.through(web, pair) for pair in pairs]
+        parts.extend(Part.through(web, [u], barred=[v]) for u, v in pairs)
+        parts.extend(Part(web, jumps) for jumps in list(webs.subsets(web.jumps))[3::101])
+        inner = list(combinations(range(1, fine.blocks - 1), 2))
+        parts.extend(Part.through(fine, [u], barred=[v]) for u, v in inner[::2])
+        parts.extend(Part.through(fine, pair) for pair in inner[1::2])
+        return parts
+
     def check_histories(self, web, all_watched, seeds, most):
         for watched in all_watched:
-            fine = Recorder(web, watched=watched).cover.fine
-            parts = [Part(web, jumps) for jumps in list(webs.subsets(web.jumps))[3::41]]
-            parts.extend(Part.through(web, [block]) for block in range(1, web.blocks - 1))
-            parts.extend(Part(fine, jumps) for jumps in list(webs.subsets(fine.jumps[:9]))[5::97])
-            parts.append(Part.through(fine, [fine.blocks // 2], barred=[fine.jumps[0]]))
+            parts = self.some_parts(web, Recorder(web, watched=watched).cover.fine)
             for seed in seeds:
-                for recorder, model in histories.some_history(web, watched, seed, 14, most):
-                    self.check(recorder, model, [parts[(seed + at) % len(parts)] for at in (0, 3, 7)])
+                for at, (recorder, model) in enumerate(histories.some_history(web, watched, seed, 14, most)):
+                    self.check(recorder, model, [parts[(seed * 5 + at * 7 + more) % len(parts)] for more in (0, 11)])
 
     def test_double_diamond(self):
-        self.check_histories(webs.double(), [(), (3,), (3, 4), (1, 2, 3, 4, 5)], range(8), 6)
+        self.check_histories(webs.double(), [(), (1, 2), (3,), (3, 4), (1, 2, 3, 4, 5)], range(6), 8)
 
     def test_full_web_of_five_blocks(self):
-        self.check_histories(webs.full_web(5), [(), (2,), (3, 1), (1, 2, 3)], range(5), 4)
+        self.check_histories(webs.full_web(5), [(), (2,), (3,), (3, 1), (1, 2, 3)], range(6), 5)
 
     def test_three_choices(self):
-        self.check_histories(webs.chain(), [(), (3,), (6, 3)], range(4), 4)
+        self.check_histories(webs.chain(), [(), (3,), (6,), (6, 3)], range(6), 5)
 
     def test_blocks_on_no_run(self):
         self.check_histories(webs.web_with_dead_ends(), [(), (2,), (3, 4)], range(4), 4)
+
+    def test_two_pieces_of_few_runs(self):
+        """What is known by pieces is often more than what is known without them."""
+        web, parts, unlike = webs.double(), [], 0
+        parts = [Part.through(web, items) for items in [[1, 4], [1, 5], [(2, 3), 4]]]
+        known = list(search.few_runs(web, 4))[7:]
+        for at, first in enumerate(known[::3]):
+            for place, second in enumerate(known[at % 4::4]):
+                recorder, model = Recorder(web), histories.Model(web, ())
+                for run, times in first:
+                    recorder.enter(run, times=times)
+                    model.pieces[0].append((run, times, False))
+                recorder.cut()
+                model.pieces.append([])
+                for run, times in second[1:]:
+                    recorder.enter(run, times=times)
+                    model.pieces[1].append((run, times, False))
+                if second and place % 3 == 0:
+                    recorder.note(second[0][0])
+                    model.pieces[1].append((second[0][0], 1, True))
+                part = parts[(at + place) % 3]
+                self.check(recorder, model, [part])
+                unlike += recorder.known(part) != recorder.known_by_pieces(part)
+        self.assertGreater(unlike, 50)
 
     def test_all_parts_of_one_history(self):
         web = webs.double()

@@ -89,6 +89,17 @@ class EnteringTest(unittest.TestCase):
         self.assertEqual(recorder.noted().entries, [(FOURTEEN, 7), (TWENTYFIVE, 3)])
         self.assertEqual(recorder.counts().total, 11)
 
+    def test_noted_and_entered_at_once(self):
+        recorder = Recorder(webs.double())
+        recorder.enter(FOURTEEN, times=2)
+        recorder.note(FOURTEEN, times=3)
+        recorder.enter(FOURTEEN)
+        recorder.enter(TWENTYFIVE, times=4)
+        self.assertEqual(state_of(recorder)[2:], [[(FOURTEEN, 3)], [(recorder.counts().pairs, [(FOURTEEN, 3)])]])
+        self.assertEqual(recorder.counts().pairs, [((0, 1), 6), ((0, 2), 4), ((1, 3), 6), ((2, 3), 4), ((3, 4), 6),
+                                                   ((3, 5), 4), ((4, 6), 6), ((5, 6), 4)])
+        self.assertEqual(recorder.known(BY_ONE_AND_FOUR), (3, 6))
+
     def test_no_run(self):
         recorder = Recorder(webs.diamond(), watched=[1])
         for value in [*webs.odd_values(), (0, 3), (0, 1, 2, 3), [0, 1, 3], 0]:
